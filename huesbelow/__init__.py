@@ -1,0 +1,1 @@
+"""Huesbelow: how many unlike hues stand below each place of a tree."""
