@@ -102,10 +102,8 @@ def depth(parents, place):
     return len(steps_up(parents, place)) - 1
 
 
-def way(parents, one, other):
-    """The places from one to the other by the fewest steps, both among them."""
-    need_place(parents, one)
-    need_place(parents, other)
+def way_between(parents, one, other):
+    """The places from one to the other; the tree is known to be one, and both to be places of it."""
     rising = steps_up(parents, one)
     falling = steps_up(parents, other)
     top = one
@@ -114,6 +112,25 @@ def way(parents, one, other):
         top = rising.pop()
         falling.pop()
     return rising + [top] + falling[::-1]
+
+
+def way(parents, one, other):
+    """The places from one to the other by the fewest steps, both among them."""
+    need_place(parents, one)
+    need_place(parents, other)
+    return way_between(parents, one, other)
+
+
+def steps_beneath(parents, order, place):
+    """For each place how many steps it stands beneath this one, or None where it is not below it."""
+    steps = [None for each in order]
+    steps[place] = 0
+    # The order is that of the walk, so that a parent is settled ahead of its children.
+    for each in order:
+        parent = parents[each]
+        if parent is not None and steps[parent] is not None:
+            steps[each] = steps[parent] + 1
+    return steps
 
 
 def children(parents, place):

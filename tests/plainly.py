@@ -63,6 +63,62 @@ def way(parents, one, other):
     return found[other]
 
 
+def stands_in(parents, part, place):
+    """Whether one place stands in a part, looked at by itself."""
+    word, one, *more = part
+    if word == "below":
+        return one in from_root(parents, place)
+    if word == "to":
+        above = from_root(parents, place)
+        return one in above and len(above) - 1 - above.index(one) <= more[0]
+    if word == "way":
+        return place in way(parents, one, more[0])
+    if word == "stretch":
+        return one <= walk(parents).index(place) < more[0]
+    first, other = stands_in(parents, one, place), stands_in(parents, more[0], place)
+    return {"both": first and other, "either": first or other, "but": first and not other}[word]
+
+
+def places_of(parents, part):
+    return [place for place in range(len(parents)) if stands_in(parents, part, place)]
+
+
+def part_hues(parents, hues, part):
+    """The hues of a part, rising, one for each of its places."""
+    return sorted(hues[place] for place in places_of(parents, part))
+
+
+def plain_parts(parents):
+    """Every part of the tree that has no parts within it, with some depths."""
+    many = len(parents)
+    every = range(many)
+    parts = [("below", place) for place in every]
+    parts += [("to", place, depth) for place in every for depth in [0, 1, 2, many, BIG]]
+    parts += [("way", one, other) for one in every for other in every]
+    parts += [("stretch", first, beyond) for first in every for beyond in range(first + 1, many + 1)]
+    return parts
+
+
+def empty_part(place):
+    return ("but", ("below", place), ("below", place))
+
+
+def mixed_parts(parents, many, seed):
+    """Parts within parts, some deep; the same for the same seed."""
+    chance = random.Random(seed)
+    pool = plain_parts(parents) + [empty_part(0)]
+    return [mixed_part(chance, pool, chance.randrange(4)) for _ in range(many)]
+
+
+def mixed_part(chance, pool, deep):
+    if deep == 0:
+        return chance.choice(pool)
+    first = mixed_part(chance, pool, deep - 1)
+    other = mixed_part(chance, pool, chance.randrange(deep))
+    parts = (first, other) if chance.randrange(2) else (other, first)
+    return (chance.choice(["both", "either", "but"]), *parts)
+
+
 def hues_below(parents, hues, place):
     return sorted({hues[other] for other in below(parents, place)})
 
