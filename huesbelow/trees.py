@@ -137,3 +137,10 @@ def children(parents, place):
     """The children of a place, rising."""
     need_place(parents, place)
     return child_lists(parents)[place]
+
+
+def numbered_anew(parents, places):
+    """The parents of these places, numbered in their order; None where a parent is not among them."""
+    # The parents may be a list or, where numbers are missing, a dict by place.
+    numbers = {place: number for number, place in enumerate(places)}
+    return [numbers.get(parents[place]) for place in places]

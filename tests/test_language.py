@@ -1,4 +1,4 @@
-"""Those rules for the package's files that are plain to check, of L1 to L3, L6 to L8, L10, L12, L14 to L17, L20 to L27."""
+"""Those rules for the package's files that are plain to check, of L1 to L3, L6 to L8, L10, L12, L14 to L18, L20 to L27."""
 
 import ast
 import builtins
@@ -20,11 +20,12 @@ PARTS = ["dataclass", "overload", "contextmanager"]
 # What the package has used so far of what L6 and L7 allow; what is added here must be looked up there first.
 NODES = """Module FunctionDef ClassDef ImportFrom alias arguments arg Load Store Expr Assign AugAssign Return If While For
 Raise Break Continue Name Constant Attribute Subscript Slice Call keyword List Tuple Dict ListComp comprehension IfExp BinOp
-UnaryOp BoolOp Compare Add Sub BitAnd BitOr And Or Not USub Lt LtE Gt GtE Eq NotEq In NotIn Is IsNot""".split()
+UnaryOp BoolOp Compare Add Sub BitAnd BitOr And Or Not USub Lt LtE Gt GtE Eq NotEq In NotIn Is IsNot SetComp DictComp
+Delete Del JoinedStr FormattedValue Mult""".split()
 
 METHODS = """append clear copy count endswith extend find get index insert isalnum isalpha isdigit islower isspace isupper
 items join keys ljust lower lstrip partition pop remove replace reverse rfind rjust rpartition rsplit rstrip setdefault
-split splitlines startswith strip update upper values zfill bit_length""".split()
+split splitlines startswith strip update upper values zfill bit_length isascii removeprefix""".split()
 
 VIEWS = ["zip", "enumerate", "reversed", "range"]
 
@@ -128,6 +129,36 @@ class Rules(unittest.TestCase):
                 allowed = KEYWORDS.get(called(node), [])
                 self.assertEqual([each.arg for each in node.keywords if each.arg not in allowed], [], (name, node.lineno))
 
+    def test_no_name_is_a_method_and_an_attribute(self):
+        methods, attributes = set(), set()
+        for name, node in self.nodes():
+            if isinstance(node, ast.ClassDef):
+                told = [row.name for row in node.body if isinstance(row, ast.FunctionDef)]
+                self.assertEqual(len(told), len(set(told)), (name, node.name))
+                methods.update(told)
+            if isinstance(node, ast.Attribute) and isinstance(node.ctx, ast.Store):
+                attributes.add(node.attr)
+        self.assertEqual(methods & attributes, set())
+        values = {each for value in ("", 0, b"", [], {}, set(), ()) for each in dir(value)}
+        self.assertEqual((methods - {"__init__"} | attributes) & values, set())
+
+    def test_f_strings_are_plain(self):
+        for name, text in self.texts.items():
+            for node in ast.walk(ast.parse(text)):
+                if isinstance(node, ast.JoinedStr):
+                    self.assertEqual(node.lineno, node.end_lineno, (name, node.lineno))
+                if isinstance(node, ast.FormattedValue):
+                    self.assertEqual(node.conversion, -1, (name, node.lineno))
+                    self.assertIsNone(node.format_spec, (name, node.lineno))
+                    inner = [each for each in ast.walk(node.value) if isinstance(each, (ast.Constant, ast.JoinedStr))]
+                    self.assertEqual([each for each in inner if not isinstance(getattr(each, "value", ""), int)], [])
+
+    def test_deleted_are_items_only(self):
+        for name, node in self.nodes():
+            if isinstance(node, ast.Delete):
+                for each in node.targets:
+                    self.assertIsInstance(each, ast.Subscript, (name, node.lineno))
+
     def test_annotations_and_decorators(self):
         for name, node in self.nodes():
             if isinstance(node, (ast.FunctionDef, ast.ClassDef)):
@@ -139,8 +170,9 @@ class Rules(unittest.TestCase):
         for name, text in self.texts.items():
             around = with_parents(ast.parse(text))
             for node in around:
-                if called(node) in ("set", "frozenset"):
-                    self.assertEqual(called(node), "set", (name, node.lineno))
+                self.assertNotEqual(called(node), "frozenset", name)
+                self.assertNotIsInstance(node, ast.Set, name)
+                if called(node) == "set" or isinstance(node, ast.SetComp):
                     outer = around[node]
                     while isinstance(outer, ast.BinOp):
                         outer = around[outer]
